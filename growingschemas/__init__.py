@@ -1,0 +1,1 @@
+"""Schemas that grow: whether newer ones may read older rows, and how."""
