@@ -1,25 +1,59 @@
-"""The chain of versions, and the calls on it as lists of whole numbers."""
+"""The chain of versions with its rows, and the calls on it as lists of whole numbers."""
 
 from growingschemas.obstacles import first_obstacle, obstacle_row
 from growingschemas.reading import read_row
-from growingschemas.refusals import BadText, ChainFull, NoSuchVersion, NoVersions, Obstructed, Unreadable
+from growingschemas.refusals import BadText, ChainFull, NoSuchRow, NoSuchVersion, NoVersions, Obstructed, RowsFull
+from growingschemas.refusals import Unreadable
 from growingschemas.rows import parse_row, row_text
 from growingschemas.schemas import parse_schema
+from growingschemas.ways import is_straight, read_along
 
 MOST_VERSIONS = 16
+MOST_ROWS = 100
 
 
 class Chain:
     def __init__(self):
         self.schemas = []
+        self.rows = []
+
+    def last_version(self):
+        return len(self.schemas) - 1
 
     def last_schema(self):
-        return self.schemas[len(self.schemas) - 1]
+        return self.schemas[self.last_version()]
 
     def schema_at(self, version):
         if version < 0 or version >= len(self.schemas):
             raise NoSuchVersion("there's no such version")
         return self.schemas[version]
+
+    def way(self, start, end):
+        self.schema_at(start)
+        self.schema_at(end)
+        if end < start:
+            raise NoSuchVersion("a way doesn't lead back")
+        return self.schemas[start:end + 1]
+
+    def row_at(self, place):
+        if place < 0 or place >= len(self.rows):
+            raise NoSuchRow("there's no such row")
+        return self.rows[place]
+
+
+# A row as it was put, and how far it has been read on: what it is in that version.
+# So no version reads it twice, however often it is asked for.
+class KeptRow:
+    def __init__(self, version, text, value):
+        self.version = version
+        self.text = text
+        self.reached = version
+        self.value = value
+
+    def read_on(self, chain):
+        last = chain.last_version()
+        self.value = read_along(self.value, chain.way(self.reached, last))
+        self.reached = last
 
 
 # A call's own whole numbers, and its text if it has one.
@@ -33,6 +67,7 @@ class Call:
 def begin(chain, call):
     schema = parse_schema(call.text)
     chain.schemas = [schema]
+    chain.rows = []
     return [0]
 
 
@@ -44,7 +79,7 @@ def step(chain, call):
     if obstacle is not None:
         raise Obstructed(obstacle.number)
     chain.schemas.append(schema)
-    return [len(chain.schemas) - 1]
+    return [chain.last_version()]
 
 
 def why(chain, call):
@@ -68,8 +103,50 @@ def compare(chain, call):
 def read(chain, call):
     old = chain.schema_at(call.numbers[0])
     new = chain.schema_at(call.numbers[1])
-    row = parse_row(call.text, old)
-    return counted(row_text(read_row(row, old, new), new))
+    value = parse_row(call.text, old)
+    return counted(row_text(read_row(value, old, new), new))
+
+
+def through(chain, call):
+    way = chain.way(call.numbers[0], call.numbers[1])
+    value = parse_row(call.text, way[0])
+    return counted(row_text(read_along(value, way), way[len(way) - 1]))
+
+
+def straight(chain, call):
+    if is_straight(chain.way(call.numbers[0], call.numbers[1])):
+        return [1]
+    return [0]
+
+
+def put(chain, call):
+    value = parse_row(call.text, chain.last_schema())
+    if len(chain.rows) >= MOST_ROWS:
+        raise RowsFull("there are as many rows as may be")
+    chain.rows.append(KeptRow(chain.last_version(), call.text, value))
+    return [len(chain.rows) - 1]
+
+
+def rows(chain, call):
+    return [len(chain.rows)]
+
+
+def row(chain, call):
+    kept = chain.row_at(call.numbers[0])
+    kept.read_on(chain)
+    return counted(row_text(kept.value, chain.last_schema()))
+
+
+def origin(chain, call):
+    kept = chain.row_at(call.numbers[0])
+    return [kept.version] + counted(kept.text)
+
+
+def drop(chain, call):
+    place = call.numbers[0]
+    chain.row_at(place)
+    chain.rows.pop(place)
+    return [0]
 
 
 def tell_obstacle(old, new):
@@ -93,6 +170,13 @@ CALLS = (
     (show, 1, False),
     (compare, 2, False),
     (read, 2, True),
+    (through, 2, True),
+    (straight, 2, False),
+    (put, 0, True),
+    (rows, 0, False),
+    (row, 1, False),
+    (origin, 1, False),
+    (drop, 1, False),
 )
 BEGIN = 0
 
@@ -136,6 +220,10 @@ def answer_or_refusal(chain, call):
         return [-2]
     except NoSuchVersion:
         return [-3]
+    except NoSuchRow:
+        return [-3]
+    except RowsFull:
+        return [-4]
     except ChainFull:
         return [-5]
     except Unreadable:

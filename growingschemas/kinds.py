@@ -14,15 +14,21 @@ class Kind:
         self.position_of_number = dict([(field.number, k) for k, field in enumerate(fields)])
         self.position_of_name = dict([(field.name, k) for k, field in enumerate(fields)])
 
+    # None if there's no field with this number.
+    def field_numbered(self, number):
+        position = self.position_of_number.get(number)
+        if position is None:
+            return None
+        return self.fields[position]
 
-# The default is a LeafValue, or None where there's none.
+
+# The default is a LeafValue, or None where there's none: all that it's for is what the field fills in.
 class Field:
     def __init__(self, number, name, mode, kind, default):
         self.number = number
         self.name = name
         self.mode = mode
         self.kind = kind
-        self.default = default
         self.fills = fills_in(mode, kind, default)
 
 

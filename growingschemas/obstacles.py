@@ -57,7 +57,7 @@ def compare_choices(old, new, path):
         if field.number not in new.position_of_number:
             return Obstacle(GONE, path + [field.number], [least_value(field.kind)])
     for field in old.fields:
-        new_field = new.fields[new.position_of_number[field.number]]
+        new_field = new.field_numbered(field.number)
         found = compare_kinds(field.kind, new_field.kind, path + [field.number])
         if found is not None:
             return found
@@ -66,11 +66,11 @@ def compare_choices(old, new, path):
 
 def compare_records(old, new, path):
     for field in new.fields:
-        position = old.position_of_number.get(field.number)
-        if position is None:
+        old_field = old.field_numbered(field.number)
+        if old_field is None:
             found = look_at_added(field, path + [field.number])
         else:
-            found = compare_fields(old.fields[position], field, path + [field.number])
+            found = compare_fields(old_field, field, path + [field.number])
         if found is not None:
             return found
     return None

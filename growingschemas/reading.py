@@ -34,11 +34,14 @@ def read_field(record, old, field):
         if occurrences is None:
             raise Unreadable("a field has no filling")
         return occurrences
-    old_kind = old.fields[position].kind
-    occurrences = [read_value(value, old_kind, field.kind) for value in record[position]]
-    if not suits_mode(occurrences, field.mode):
+    return read_occurrences(record[position], old.fields[position].kind, field)
+
+
+def read_occurrences(occurrences, old_kind, field):
+    read = [read_value(value, old_kind, field.kind) for value in occurrences]
+    if not suits_mode(read, field.mode):
         raise Unreadable("the occurrences don't suit the new mode")
-    return occurrences
+    return read
 
 
 def read_choice(choice, old, new):

@@ -14,6 +14,14 @@ class NoSuchVersion(Exception):
     pass
 
 
+class NoSuchRow(Exception):
+    pass
+
+
+class RowsFull(Exception):
+    pass
+
+
 class ChainFull(Exception):
     pass
 

@@ -79,6 +79,12 @@ def row_text(row, schema):
     return text
 
 
+def field_text(field, occurrences):
+    text = []
+    write_field(field, occurrences, text)
+    return text
+
+
 # Everything is written into one list: texts that are read on may be long.
 def write_value(value, kind, text):
     if kind.letter == RECORD:

@@ -52,6 +52,34 @@ def read(i, j, text):
     return [6, i, j] + counted(text)
 
 
+def through(i, j, text):
+    return [7, i, j] + counted(text)
+
+
+def straight(i, j):
+    return [8, i, j]
+
+
+def put(text):
+    return [9] + counted(text)
+
+
+def rows():
+    return [10]
+
+
+def row(number):
+    return [11, number]
+
+
+def origin(number):
+    return [12, number]
+
+
+def drop(number):
+    return [13, number]
+
+
 def ask(*calls):
     """One list of numbers for each call."""
     line = [number for call in calls for number in call]
@@ -75,12 +103,27 @@ def told(number, path, row):
 
 
 def text_of(answer):
-    """The text that show or read answered, or the number of the refusal."""
+    """The text that show, read, through or row answered, or the number of the refusal."""
     if answer[0] < 0:
         assert len(answer) == 1
         return answer[0]
     assert answer[0] == len(answer) - 1
     return bytes(answer[1:]).decode("latin-1")
+
+
+def origin_of(answer):
+    """The version and the text that origin answered, or the number of the refusal."""
+    if answer[0] < 0:
+        return text_of(answer)
+    return answer[0], text_of(answer[1:])
+
+
+def long_row(length):
+    """A text of this many bytes, from 3100 to 4005; were its length let, it would be a row's of {1a*t999}."""
+    head = "{a:" + ",".join(['"' + "x" * 997 + '"'] * 3) + ',"'
+    text = head + "x" * (length - len(head) - 2) + '"}'
+    assert len(text) == length
+    return text
 
 
 def read_between(old, new, row):

@@ -1,12 +1,47 @@
-"""Promises 3, 5 and 6, the order of refusals, and the interface itself."""
+"""Promises 2, 3, 5 and 6, the order of refusals, and the interface itself."""
 
 import unittest
 
 from growingschemas.chain import answers
-from tests.helper import NINE_LEAVES, NINE_LEAVES_ROW, ask, begin, compare, last, read, show, step, text_of, told
-from tests.helper import versions, why
+from tests.helper import NINE_LEAVES, NINE_LEAVES_ROW, ask, begin, compare, drop, last, origin, put, read, row, rows
+from tests.helper import show, step, straight, text_of, through, told, versions, why
 
 FAR = 10 ** 18
+
+
+class NoVersions(unittest.TestCase):
+    NUMBERS = (0, 1, -1, FAR, -FAR)
+
+    def all_other_calls(self):
+        """Such as would be refused for something else, too."""
+        calls = [versions(), rows()]
+        calls += [call(text) for call in (step, why, put) for text in ("{1a!b}", "{a:1}", "{}", "", [0] * 5000)]
+        calls += [call(number) for call in (show, row, origin, drop) for number in self.NUMBERS]
+        pairs = [(0, 0), (0, 1), (1, 0), (-FAR, FAR)]
+        calls += [call(i, j) for call in (compare, straight) for i, j in pairs]
+        calls += [call(i, j, text) for call in (read, through) for i, j in pairs for text in ("{a:1}", "{}", "")]
+        self.assertEqual({call[0] for call in calls}, set(range(1, 14)))
+        return calls
+
+    def test_before_begin(self):
+        for call in self.all_other_calls():
+            with self.subTest(call=call[:4]):
+                self.assertEqual(ask(call), [[-2]])
+
+    def test_behind_a_refused_begin(self):
+        for call in self.all_other_calls():
+            with self.subTest(call=call[:4]):
+                self.assertEqual(ask(begin("{1a!b"), call, begin(""), call), [[-1], [-2], [-1], [-2]])
+
+    def test_changes_nothing(self):
+        calls = [put("{a:1}"), step("{1a!b}"), begin("{1a!b}"), rows(), versions(), put("{a:1}")]
+        self.assertEqual(ask(*calls), [[-2], [-2], [0], [0], [1], [0]])
+
+    def test_none_behind_begin(self):
+        for call in self.all_other_calls():
+            with self.subTest(call=call[:4]):
+                self.assertNotEqual(last(begin("{1a!b}"), call), [-2])
+                self.assertNotEqual(last(begin("{1a!b}"), begin("{1a!"), call), [-2])
 
 
 class Step(unittest.TestCase):
@@ -50,11 +85,6 @@ class Versions(unittest.TestCase):
         calls = [begin("{1a!b}"), versions(), step("{1b?b}"), versions(), step("{1b!b}"), versions()]
         self.assertEqual(ask(*calls), [[0], [1], [1], [2], [-15], [2]])
 
-    def test_none_yet(self):
-        calls = [versions(), show(0), compare(0, 0), read(0, 0, "{}"), why("{1a!b}"), step("{1a!b}"), step("")]
-        self.assertEqual(ask(*calls, begin("{1"), versions(), begin("{1a!b}"), versions()),
-                         [[-2]] * 7 + [[-1], [-2], [0], [1]])
-
 
 class Show(unittest.TestCase):
     def test_text_with_its_length(self):
@@ -78,7 +108,9 @@ class Show(unittest.TestCase):
 class Interface(unittest.TestCase):
     def line(self):
         calls = [begin(NINE_LEAVES), step("{1id!i64}"), why("{1id!i8}"), versions(), show(1), compare(1, 0)]
-        calls += [read(0, 1, NINE_LEAVES_ROW), read(0, 0, NINE_LEAVES_ROW), read(0, 1, "{}"), begin("{1a!b}"), show(0)]
+        calls += [read(0, 1, NINE_LEAVES_ROW), read(0, 0, NINE_LEAVES_ROW), read(0, 1, "{}"), put("{id:1}"), put("{id:2}")]
+        calls += [step('{1id!i64;2new!t3="q"}'), through(0, 2, NINE_LEAVES_ROW), straight(0, 2), rows(), row(0), origin(1)]
+        calls += [drop(0), row(0), origin(0), rows(), begin("{1a!b}"), show(0), rows()]
         return [number for call in calls for number in call]
 
     def test_written_number_by_number(self):
@@ -89,6 +121,15 @@ class Interface(unittest.TestCase):
         expected = [1, 0, 1, 1, 4 + len(row), 1, 1, 1, len(row)] + row
         expected += [1, 2, 7, 6, 123, 49, 97, 33, 98, 125, 1, -3, 3, 0, 0, 0]
         expected += [9, 1, 1, 1, 5] + row + [6, 5, 123, 97, 58, 49, 125, 1, -6]
+        self.assertEqual(answers(line), expected)
+
+    def test_rows_and_ways_written_number_by_number(self):
+        line = [0, 6, 123, 49, 97, 33, 98, 125, 9, 5, 123, 97, 58, 49, 125, 1, 7, 123, 49, 98, 33, 105, 50, 125]
+        line += [7, 0, 1, 5, 123, 97, 58, 49, 125, 8, 0, 1, 8, 1, 0, 9, 6, 123, 98, 58, 45, 50, 125, 10]
+        line += [11, 0, 11, 2, 12, 0, 12, 1, 12, -1, 13, 0, 12, 0, 10, 13, 1]
+        expected = [1, 0, 1, 0, 1, 1, 6, 5, 123, 98, 58, 49, 125, 1, 1, 1, -3, 1, 1, 1, 2]
+        expected += [6, 5, 123, 98, 58, 49, 125, 1, -3, 7, 0, 5, 123, 97, 58, 49, 125]
+        expected += [8, 1, 6, 123, 98, 58, 45, 50, 125, 1, -3, 1, 0, 8, 1, 6, 123, 98, 58, 45, 50, 125, 1, 1, 1, -3]
         self.assertEqual(answers(line), expected)
 
     def test_is_not_changed_and_answers_the_same_again(self):
@@ -103,8 +144,9 @@ class Interface(unittest.TestCase):
         self.assertEqual(line, before)
 
     def test_nothing_is_kept(self):
-        answers(begin("{1a!b}"))
-        self.assertNotEqual(answers(versions()), [1, 1])
+        answers(begin("{1a!b}") + put("{a:1}"))
+        self.assertEqual([answers(versions()), answers(rows())], [[1, -2]] * 2)
+        self.assertEqual(ask(begin("{1a!b}"), versions(), rows(), row(0)), [[0], [1], [0], [-3]])
 
     def test_whole_numbers_only(self):
         answered = answers(self.line())

@@ -2,7 +2,8 @@
 
 import unittest
 
-from tests.helper import NINE_LEAVES, NINE_LEAVES_ROW, ask, begin, is_row, last, read, read_between, step, text_of
+from tests.helper import NINE_LEAVES, NINE_LEAVES_ROW, ask, begin, is_row, last, long_row, read, read_between, step
+from tests.helper import text_of
 
 FAR = 10 ** 18
 
@@ -86,11 +87,6 @@ class RowTexts(RowTextTest):
         self.bad("{1a!<1x!b;2y!t3>}", "{a:<x:1}}", "{a:<y:1>}", '{a:<x:"">}', "{a:x:1}", "{a:<x:1>,<x:1>}", "{a:<x>}")
 
     def test_length(self):
-        def long_row(length):
-            texts = ['"' + "x" * 997 + '"'] * 3
-            head = "{a:" + ",".join(texts) + ',"'
-            return head + "x" * (length - len(head) - 2) + '"}'
-        self.assertEqual(len(long_row(4000)), 4000)
         self.good("{1a*t999}", long_row(3999), long_row(4000))
         self.bad("{1a*t999}", long_row(4001), long_row(4002), '{a:"' + "x" * 4990 + '"}')
 

@@ -3,7 +3,8 @@
 import random
 import unittest
 
-from tests.helper import BRIDGE, ask, begin, is_row, is_schema, read, signs, step, text_of, why
+from tests.helper import BRIDGE, ask, begin, is_row, is_schema, origin, put, read, row, signs, step, straight, text_of
+from tests.helper import through, why
 
 LEAVES = ["b", "i2", "i3", "i5", "t1", "t2", "t3"]
 
@@ -71,6 +72,38 @@ class Draw:
             mode = "*"
         return (number, "g" + str(number), mode, kind, None)
 
+    def grown(self, kind, depth=1):
+        """A kind that often may come next: fields taken out, put in, widened, given other defaults."""
+        if isinstance(kind, str):
+            return kind if kind == "b" else kind[0] + str(int(kind[1:]) + self.random.randint(0, 1))
+        sign, fields = kind
+        by_number = {}
+        for number, name, mode, inner, default in fields:
+            if sign == "<" or self.random.random() < 0.85:
+                by_number[number] = self.grown_field(number, mode, self.grown(inner, depth + 1), default)
+        number = self.random.randint(1, 5)
+        if number not in by_number and (not by_number or self.random.random() < 0.6):
+            by_number[number] = self.field(number, sign, depth)
+        if not by_number:
+            return kind
+        return (sign, [by_number[number] for number in sorted(by_number)])
+
+    def grown_field(self, number, mode, kind, default):
+        if mode == "%" and not has_key(kind):
+            mode = "*"
+        if default is not None and self.random.random() < 0.3:
+            default = self.literal(kind)
+        return (number, self.random.choice("fgh") + str(number), mode, kind, default)
+
+    def chain(self):
+        """Schemas that may stand in one chain."""
+        schemas = [("{", self.fields("{", 1))]
+        for k in range(20):
+            following = self.grown(schemas[-1])
+            if ask(begin(written(schemas[-1])), step(written(following)))[1] == [1]:
+                schemas.append(following)
+        return schemas[:6]
+
     def value(self, kind):
         if isinstance(kind, str):
             return self.literal(kind)
@@ -103,6 +136,32 @@ def written(kind):
     for number, name, mode, inner, default in fields:
         texts.append(f"{number}{name}{mode}{written(inner)}" + ("" if default is None else "=" + default))
     return sign + ";".join(texts) + ("}" if sign == "{" else ">")
+
+
+class Ways(unittest.TestCase):
+    def test_through_row_read_and_straight(self):
+        draw = Draw(4)
+        seen = {}
+        for k in range(150):
+            schemas = draw.chain()
+            far = len(schemas) - 1
+            text = draw.value(schemas[0])
+            calls = [begin(written(schemas[0])), put(text)] + [step(written(schema)) for schema in schemas[1:]]
+            calls += [row(0), through(0, far, text), origin(0), straight(0, far), read(0, far, text)]
+            split = ask(*calls)[-5:]
+            self.assertEqual(split[:3], [self.step_by_step(schemas, text)] * 2 + [[0, len(text)] + signs(text)], calls)
+            what = (split[3], split[4] == split[1])
+            seen[str(what)] = seen.get(str(what), 0) + 1
+            self.assertNotEqual(what, ([1], False), (schemas, text))
+        self.assertGreater(seen[str(([1], True))], 10)
+        self.assertGreater(seen[str(([0], False))], 10)
+
+    def step_by_step(self, schemas, text):
+        """What row and through answer, read from each version to the next with a chain of these two alone."""
+        answer = [len(text)] + signs(text)
+        for old, new in zip(schemas, schemas[1:]):
+            answer = ask(begin(written(old)), step(written(new)), read(0, 1, answer[1:]))[2]
+        return answer
 
 
 class Together(unittest.TestCase):
